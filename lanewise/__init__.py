@@ -1,0 +1,1 @@
+"""A vector processor whose lanes are chosen by predicates."""
