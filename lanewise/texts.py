@@ -26,7 +26,8 @@ def alike(xs, ys):
 
 def standing(xs, ys):
     # What of xs would lie beyond the 16 bytes is not asked for; beyond the end of ys it is missed.
-    return [xs[:16 - i] == ys[i:i + len(xs)] for i in range(len(ys))]
+    # All 16 places are walked, since of an empty xs nothing is missed where ys has ended either.
+    return [xs[:16 - i] == ys[i:i + len(xs)] for i in range(16)]
 
 
 QUESTIONS = (among, between, alike, standing)

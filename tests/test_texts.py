@@ -81,10 +81,18 @@ class Texts(Steps):
         self.check_text(STANDING, "f123456789abcdef", "0123456789abcdef", 0x8000, C)
         self.check_text(STANDING, "bc", "012345678901a.b", 0, Z)
 
-    def test_an_empty_text_stands_at_each_byte_but_not_past_the_end(self):
-        self.check_text(STANDING, "", "lane", 0b1111, Z | C)
+    def test_an_empty_text_stands_at_each_place_though_b_has_ended(self):
+        self.check_text(STANDING, "", "", 0xFFFF, Z | C)
+        self.check_text(STANDING, "", "a", 0xFFFF, Z | C)
+        self.check_text(STANDING, "", "lane", 0xFFFF, Z | C)
+        self.check_text(STANDING, "", "0123456789abcde", 0xFFFF, Z | C)
         self.check_text(STANDING, "", "0123456789abcdef", 0xFFFF, C)
-        self.check_text(STANDING, "", "", 0, Z)
+
+    def test_a_text_that_is_not_empty_stands_nowhere_past_the_end(self):
+        self.check_text(STANDING, "a", "0123456789abcde", 0b10000000000, Z | C)
+        self.check_text(STANDING, "ef", "0123456789abcde", 0, Z)
+        self.check_text(STANDING, "lanelanelanelane", "lane", 0, Z)
+        self.check_text(STANDING, "lanelanelanelane", "", 0, Z)
 
     def test_lengths_end_at_sixteen_and_know_no_sign(self):
         rows = {("v", 2): vector(8, [], 0x61), ("v", 3): vector(8, [], 0x61)}
