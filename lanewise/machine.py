@@ -51,3 +51,9 @@ class Machine:
 
     def put_flags(self, zero, carry):
         self.flags = (ZERO if zero else 0) | (CARRY if carry else 0)
+
+    def has_zero(self):
+        return (self.flags & ZERO) != 0
+
+    def has_carry(self):
+        return (self.flags & CARRY) != 0

@@ -148,6 +148,19 @@ class Form(unittest.TestCase):
                 if isinstance(node, ast.Call) and isinstance(node.func, ast.Attribute):
                     self.assertIn(node.func.attr, own | OWN_METHODS, (path.name, node.lineno))
 
+    def test_no_method_is_called_like_a_value(self):
+        methods, kept = set(), set()
+        for path in FILES:
+            for node in ast.walk(tree(path)):
+                if isinstance(node, ast.ClassDef):
+                    methods |= {method.name for method in node.body if isinstance(method, ast.FunctionDef)}
+                if isinstance(node, ast.Attribute) and isinstance(node.ctx, ast.Store):
+                    kept.add(node.attr)
+        self.assertEqual(sorted(methods & kept), [])
+        for name in sorted((methods | kept) - {"__init__"}):
+            for kind in (str, int, list, dict, set, bytes, tuple):
+                self.assertFalse(hasattr(kind, name), name)
+
     def test_what_is_walked_is_walked_on_the_spot(self):
         for path in FILES:
             module = tree(path)

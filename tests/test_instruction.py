@@ -2,14 +2,9 @@
 
 import unittest
 
-from helper import ALL, REFUSED, WIDTHS, Steps, ask, background, code, cycled, handed, told, vector
+from helper import (ALL, DONE, MEMORY, NARROWER, REFUSED, WAYS, WIDTHS, Sealed, Steps, ask, background, code, cycled,
+                    handed, told, vector)
 from lanewise.lanes import do
-
-DONE = (list(range(1, 38)) + list(range(40, 59)) + list(range(60, 108)) + list(range(130, 141)))
-NARROWER = {36: (32, 64), 53: (8, 16, 32), 54: (8, 16, 32), 55: (8, 16, 32), 56: (8, 16, 32), 57: (8, 16, 32),
-            58: (8, 16, 32), 62: (16,), 78: (32, 64), 87: (32, 64)}
-MEMORY = range(110, 119)
-WAYS = range(120, 128)
 
 
 class Refusals(Steps):
@@ -165,13 +160,6 @@ class Answers(Steps):
                     self.assertIsNot(answer, part)
 
     def test_nothing_is_written_to_what_is_handed_in_for_a_while_either(self):
-        class Sealed(list):
-            def refuse(self, *others):
-                raise AssertionError("written to")
-
-            __setitem__ = __delitem__ = __iadd__ = __imul__ = refuse
-            append = clear = extend = insert = pop = remove = reverse = sort = refuse
-
         for operation in DONE:
             given = handed(code(operation, 16 if operation == 62 else 32, g=2, z=5), background())
             told(do(given[0], Sealed(given[1]), Sealed(given[2]), Sealed(given[3]), given[4]))
